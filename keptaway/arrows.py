@@ -47,8 +47,13 @@ def loose_arrow(story, arrow):
     return [len(story.arrows)]
 
 
-def list_arrows(story):
-    told = [len(story.arrows)]
-    for row in story.arrows:
+def tell_arrows(rows):
+    """How many arrows these are, then of each the four numbers."""
+    told = [len(rows)]
+    for row in rows:
         told.extend(row)
     return told
+
+
+def list_arrows(story):
+    return tell_arrows(story.arrows)

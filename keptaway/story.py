@@ -43,6 +43,11 @@ def is_full(story, machine):
     return done(story, machine) == MOST_THINGS
 
 
+def received(story):
+    """The rows of the messages that are received: one that isn't binds nothing yet."""
+    return [row for row in story.messages if row[3] > 0]
+
+
 def links(story):
     """All rows (p, j, m, i) that bind a state: the messages that are received, and the arrows."""
-    return [row for row in story.messages if row[3] > 0] + story.arrows
+    return received(story) + story.arrows

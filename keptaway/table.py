@@ -1,14 +1,13 @@
 """A list of calls on one new object, and the list of their answers."""
 
 from keptaway.arrows import change_test, list_arrows, loose_arrow, put_arrow
+from keptaway.orders import fits, miss, misses, orders, surely
+from keptaway.prevention import idle, prevent, take
 from keptaway.refusals import NOT_BEGUN
-from keptaway.states import bad, kept, states
+from keptaway.singles import best, leaves, singles
+from keptaway.states import bad, before, holds, kept, states
 from keptaway.story import Story
 from keptaway.telling import back, begin, own, receive, send, state
-
-
-class CallNotBuilt(Exception):
-    """A call that the program doesn't have yet was made on an object that is begun."""
 
 
 def answers(calls):
@@ -37,7 +36,11 @@ def answer_call(story, call, numbers):
         return answer_arrows(story, call, numbers)
     if call <= 12:
         return answer_states(story, call)
-    raise CallNotBuilt(f"call {call}")
+    if call <= 17:
+        return answer_orders(story, call, numbers)
+    if call <= 20:
+        return answer_singles(story, call, numbers)
+    return answer_rest(story, call, numbers)
 
 
 def answer_telling(story, call, numbers):
@@ -68,3 +71,35 @@ def answer_states(story, call):
     if call == 11:
         return bad(story)
     return kept(story)
+
+
+def answer_orders(story, call, numbers):
+    if call == 13:
+        return orders(story)
+    if call == 14:
+        return surely(story)
+    if call == 15:
+        return misses(story)
+    if call == 16:
+        return miss(story, numbers[0])
+    return before(story, numbers[0], numbers[1], numbers[2], numbers[3])
+
+
+def answer_singles(story, call, numbers):
+    if call == 18:
+        return singles(story)
+    if call == 19:
+        return best(story)
+    return leaves(story, numbers[0], numbers[1], numbers[2], numbers[3])
+
+
+def answer_rest(story, call, numbers):
+    if call == 21:
+        return prevent(story)
+    if call == 22:
+        return take(story)
+    if call == 23:
+        return idle(story)
+    if call == 24:
+        return fits(story)
+    return holds(story, numbers)

@@ -38,7 +38,7 @@ def last(*calls):
 
 def looks(machines):
     """Calls that tell the whole object: its tests (by setting each anew), then each machine's values, one by one."""
-    asked = [("state",), ("arrows",), ("states",), ("bad",), ("kept",)]
+    asked = [(name,) for name in "state arrows states bad kept orders misses prevent fits".split()]
     asked += [("test", machine, 1023) for machine in range(machines)]
     for machine in range(machines):
         for value in range(10):

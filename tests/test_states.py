@@ -1,9 +1,9 @@
-"""Point 3: states, bad, kept."""
+"""Point 3: states, bad, kept, holds, before."""
 
 import itertools
 import unittest
 
-from tests.helper import last, run
+from tests.helper import GREATEST, assert_refused, last, run
 
 
 VALUES = [[(3 * machine + which * which) % 10 for which in range(1, 7)] for machine in range(4)]
@@ -99,6 +99,104 @@ class Bad(unittest.TestCase):
     def test_only_states_they_may_have_stood_in(self):
         told = [("begin", 2), ("send", 0, 1, 1), ("receive", 1, 0, 1), ("test", 0, 1), ("test", 1, 2)]
         self.assertEqual(run(*told, ("bad",), ("kept",))[-2:], [[0], [1]])
+
+
+class Holds(unittest.TestCase):
+    # Bad is one done of the first machine, whatever the second did; the message shuts out (0, 1).
+    TOLD = [("begin", 2), ("send", 0, 1, 1), ("receive", 1, 0, 5), ("own", 0, 2), ("test", 0, 2)]
+
+    def test_each_state(self):
+        told = {(0, 0): [1, 0], (1, 0): [1, 1], (2, 0): [1, 0], (0, 1): [0, 0], (1, 1): [1, 1], (2, 1): [1, 0]}
+        for counts, answer in told.items():
+            self.assertEqual(last(*self.TOLD, ("holds", *counts)), answer, counts)
+
+    def test_bad_where_they_can_not_have_stood(self):
+        found = run(*self.TOLD, ("test", 0, 1), ("holds", 0, 1), ("holds", 0, 0), ("holds", 1, 1))
+        self.assertEqual(found[-3:], [[0, 1], [1, 1], [1, 0]])
+
+    def test_arrows_count(self):
+        found = run(*self.TOLD, ("arrow", 1, 1, 0, 2), ("holds", 2, 0), ("holds", 2, 1), ("loose", 0), ("holds", 2, 0))
+        self.assertEqual(found[-4:], [[0, 0], [1, 0], [0], [1, 0]])
+
+    def test_one_number_for_each_machine(self):
+        for machines in (1, 2, 3, 4):
+            for count in range(9):
+                call = ("holds",) + (0,) * count
+                if count == machines:
+                    self.assertEqual(last(("begin", machines), call), [1, 1])
+                else:
+                    assert_refused(self, [("begin", machines)], call, -22)
+
+    def test_too_many_and_too_few(self):
+        for numbers in ((), (1,), (0,), (1, 1, 0), (0,) * 8, (GREATEST,) * 8, (GREATEST,)):
+            assert_refused(self, self.TOLD, ("holds", *numbers), -22)
+
+    def test_greater_than_what_that_machine_did(self):
+        for numbers in ((3, 0), (0, 2), (3, 2), (GREATEST, 0), (0, GREATEST), (7, 0), (8, 0), (0, 8)):
+            assert_refused(self, self.TOLD, ("holds", *numbers), -22)
+        self.assertEqual(last(*self.TOLD, ("own", 1, 0), ("holds", 0, 2)), [0, 0])
+        assert_refused(self, self.TOLD + [("back",)], ("holds", 2, 0), -22)
+
+    def test_machines_are_not_mixed_up(self):
+        told = [("begin", 4)] + [("own", machine, machine) for machine in range(4) for number in range(machine + 1)]
+        told += [("test", machine, 1 << machine) for machine in range(1, 4)]
+        self.assertEqual(last(*told, ("holds", 1, 2, 3, 4)), [1, 1])
+        for machine in range(4):
+            counts = [1, 2, 3, 4]
+            counts[machine] += 1
+            assert_refused(self, told, ("holds", *counts), -22)
+        self.assertEqual(last(*told, ("holds", 0, 1, 1, 1)), [1, 1])
+        self.assertEqual(last(*told, ("holds", 1, 0, 1, 1)), [1, 0])
+        self.assertEqual(last(*told, ("holds", 1, 1, 0, 1)), [1, 0])
+        self.assertEqual(last(*told, ("holds", 1, 1, 1, 0)), [1, 0])
+
+    def test_six_done_of_each(self):
+        told = [("begin", 4)] + [("own", machine, 3) for machine in range(4)] * 6
+        self.assertEqual(last(*told, ("holds", 6, 6, 6, 6)), [1, 1])
+        assert_refused(self, told, ("holds", 6, 6, 6, 7), -22)
+        assert_refused(self, told, ("holds", 7, 0, 0, 0), -22)
+
+
+class Before(unittest.TestCase):
+    TOLD = [("begin", 3), ("own", 0, 1), ("send", 0, 1, 1), ("own", 1, 1), ("receive", 1, 0, 1), ("own", 2, 1)]
+
+    def test_by_a_message(self):
+        found = run(*self.TOLD, ("before", 0, 2, 1, 2), ("before", 1, 2, 0, 2), ("before", 0, 1, 1, 2),
+                    ("before", 0, 1, 1, 1), ("before", 0, 2, 2, 1))
+        self.assertEqual(found[-5:], [[1, 0], [0, 1], [1, 0], [0, 0], [0, 0]])
+
+    def test_of_one_machine(self):
+        self.assertEqual(last(*self.TOLD, ("before", 0, 1, 0, 2)), [1, 0])
+        self.assertEqual(last(*self.TOLD, ("before", 0, 2, 0, 1)), [0, 1])
+
+    def test_the_same_thing(self):
+        for machine, thing in ((0, 1), (0, 2), (1, 1), (1, 2), (2, 1)):
+            self.assertEqual(last(*self.TOLD, ("before", machine, thing, machine, thing)), [0, 0])
+
+    def test_by_arrows(self):
+        told = self.TOLD + [("arrow", 1, 2, 2, 1)]
+        found = run(*told, ("before", 1, 2, 2, 1), ("before", 1, 1, 2, 1), ("before", 0, 1, 2, 1),
+                    ("before", 2, 1, 0, 2), ("loose", 0), ("before", 1, 2, 2, 1))
+        self.assertEqual(found[-6:], [[1, 0], [1, 0], [1, 0], [0, 1], [0], [0, 0]])
+
+    def test_by_an_arrow_to_a_first_thing(self):
+        found = run(*self.TOLD, ("arrow", 2, 1, 0, 1), ("before", 2, 1, 1, 2), ("before", 1, 1, 2, 1))
+        self.assertEqual(found[-2:], [[1, 0], [0, 0]])
+
+    def test_a_thing_told_since(self):
+        told = self.TOLD + [("arrow", 1, 1, 2, 1), ("own", 2, 1), ("own", 1, 1)]
+        found = run(*told, ("before", 1, 1, 2, 2), ("before", 2, 2, 1, 3), ("before", 1, 3, 2, 1))
+        self.assertEqual(found[-3:], [[1, 0], [0, 0], [0, 0]])
+
+    def test_an_unreceived_message_binds_nothing(self):
+        self.assertEqual(last(("begin", 2), ("send", 0, 1, 1), ("own", 1, 1), ("before", 0, 1, 1, 1)), [0, 0])
+
+    def test_none_such(self):
+        for machine, thing in ((3, 1), (0, 0), (0, 3), (2, 2), (GREATEST, 1), (0, GREATEST), (GREATEST, GREATEST)):
+            assert_refused(self, self.TOLD, ("before", machine, thing, 1, 1), -2)
+            assert_refused(self, self.TOLD, ("before", 1, 1, machine, thing), -2)
+            assert_refused(self, self.TOLD, ("before", machine, thing, machine, thing), -2)
+        assert_refused(self, [("begin", 2)], ("before", 0, 1, 1, 1), -2)
 
 
 class FullSize(unittest.TestCase):
